@@ -1,0 +1,1 @@
+"""Lines whose parts are read both ways."""
