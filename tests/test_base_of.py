@@ -6,6 +6,7 @@ import itertools
 import unittest
 
 from bothwaysdesk.lines import base_of
+from helpers import ReadOnlyList
 
 MOST = 4096
 NOT_LETTERS = [2, 3, 4, 5, 6, 7]
@@ -20,17 +21,6 @@ def expected_base(kinds):
     place_of_0 = kinds.index(0) if 0 in kinds else len(kinds)
     place_of_1 = kinds.index(1) if 1 in kinds else len(kinds)
     return [1] if place_of_1 < place_of_0 else [0]
-
-
-class ReadOnlyList(list):
-    """A list that tells of any change, one that is taken back later too."""
-
-    def refuse(self, *args, **kwargs):
-        raise AssertionError("what was handed in was changed")
-
-    append = extend = insert = pop = remove = clear = refuse
-    reverse = sort = refuse
-    __setitem__ = __delitem__ = __iadd__ = __imul__ = refuse
 
 
 class FirstLetter(unittest.TestCase):
