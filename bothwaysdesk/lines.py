@@ -5,6 +5,7 @@ LETTER_TO_RIGHT = 0
 LETTER_TO_LEFT = 1
 DIGIT = 2
 SIGN_IN_NUMBERS = 3
+ANYTHING_ELSE = 4
 OPENS_TO_RIGHT = 5
 OPENS_TO_LEFT = 6
 CLOSES = 7
@@ -39,6 +40,17 @@ def levels_of(base, kinds):
         level_before = level
         begin = behind
     return answer
+
+
+def order_of(begin, to, base, kinds, levels):
+    """Give back the places of a line's cells as they stand on the screen, from the left."""
+    loose = place_of_loose_end(begin, to, kinds)
+    # Kept from the text's first cell on, so that a place in the text is its index.
+    line_levels = levels[:loose] + [base] * (to - loose)
+    places = list(range(begin, to))
+    for level in range(max(line_levels[begin:], default=0), 0, -1):
+        places = with_stretches_turned(places, level, line_levels)
+    return places
 
 
 def is_letter(kind):
@@ -154,3 +166,28 @@ def level_of_cell(kind, level):
     if kind == DIGIT and direction_of(level) == LETTER_TO_RIGHT:
         return level + 2
     return level + 1
+
+
+def place_of_loose_end(begin, to, kinds):
+    """Give back where the stretch of the kinds 4 to 7 begins that ends the line."""
+    place = to
+    while place > begin and kinds[place - 1] >= ANYTHING_ELSE:
+        place -= 1
+    return place
+
+
+def with_stretches_turned(places, least, levels):
+    """Give back the places with each longest stretch of this level or more turned round."""
+    answer = []
+    stretch = []
+    for place in places:
+        if levels[place] >= least:
+            stretch.append(place)
+        else:
+            stretch.reverse()
+            answer.extend(stretch)
+            answer.append(place)
+            stretch = []
+    stretch.reverse()
+    answer.extend(stretch)
+    return answer

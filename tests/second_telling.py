@@ -1,4 +1,4 @@
-"""The document's points on levels, told a second time, cell by cell and without haste.
+"""What the document says of levels and lines, told a second time and without haste.
 
 Each cell is looked at by itself and everything is found anew for it, so that
 nothing here goes the program's way.
@@ -94,4 +94,44 @@ def told_levels(base, kinds):
         cells = behind_point_4(cells, beginning)
         cells = behind_point_5(cells, level, beginning, end)
         answer += [level + (ODD if level % 2 else EVEN)[kind] for kind in cells]
+    return answer
+
+
+def levels_in_line(begin, to, base, kinds, levels):
+    """Of each cell of the line its place and the level that it has there."""
+    return [
+        (place, base if all(kind in (4, 5, 6, 7) for kind in kinds[place:to]) else levels[place])
+        for place in range(begin, to)
+    ]
+
+
+def told_order(begin, to, base, kinds, levels):
+    """"A line", word by word."""
+    row = levels_in_line(begin, to, base, kinds, levels)
+    highest = max([level for place, level in row], default=0)
+    for least in range(highest, 0, -1):
+        stretches = itertools.groupby(row, key=lambda cell: cell[1] >= least)
+        row = []
+        for turned, stretch in stretches:
+            row = row + list(stretch)[::-1 if turned else 1]
+    return [place for place, level in row]
+
+
+def order_by_pairs(begin, to, base, kinds, levels):
+    """The same without any turning: two cells are turned round together as often as
+    the least level from one to the other says, and so stand the other way round
+    where that is odd. A cell stands behind as many as stand to its left."""
+    row = levels_in_line(begin, to, base, kinds, levels)
+    answer = [None] * len(row)
+    for here in range(len(row)):
+        least = row[here][1]
+        left = 0
+        for there in range(here, -1, -1):
+            least = min(least, row[there][1])
+            left += there < here and least % 2 == 0
+        least = row[here][1]
+        for there in range(here, len(row)):
+            least = min(least, row[there][1])
+            left += there > here and least % 2 == 1
+        answer[left] = begin + here
     return answer

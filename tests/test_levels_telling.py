@@ -4,6 +4,7 @@ import itertools
 import unittest
 
 from bothwaysdesk.lines import levels_of
+from helpers import Drawing
 from second_telling import told_levels
 
 SEED = 20261116
@@ -23,21 +24,6 @@ ROWS_TO_DRAW_FROM = {
     "without closing": [0, 1, 2, 3, 4, 5, 6],
 }
 TEXTS_A_ROW = 60
-LONGEST_DRAWN = 200
-
-
-class Drawing:
-    """Numbers that look drawn, but are the same at each run and on each Python."""
-
-    def __init__(self, seed):
-        self.state = seed
-
-    def below(self, bound):
-        self.state = (self.state * 6364136223846793005 + 1442695040888963407) % 2 ** 64
-        return (self.state >> 33) % bound
-
-    def text(self, row):
-        return [row[self.below(len(row))] for count in range(5 + self.below(LONGEST_DRAWN - 4))]
 
 
 class SecondTelling(unittest.TestCase):
