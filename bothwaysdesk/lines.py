@@ -1,4 +1,4 @@
-"""The calls over a text, which is a list of its cells' kinds (0 to 7)."""
+"""The calls over a text, which is a list of its cells' kinds (0 to 7), and over its screen."""
 
 # The kind of a letter is its direction too.
 LETTER_TO_RIGHT = 0
@@ -12,6 +12,8 @@ CLOSES = 7
 
 BASE_FROM_TEXT = 2
 HIGHEST_PART_LEVEL = 60
+
+REFUSED = -1
 
 
 def base_of(kinds):
@@ -51,6 +53,17 @@ def order_of(begin, to, base, kinds, levels):
     for level in range(max(line_levels[begin:], default=0), 0, -1):
         places = with_stretches_turned(places, level, line_levels)
     return places
+
+
+def chosen(i, j, most, order):
+    """Give back how many stretches of the screen are chosen, then each one's bounds; or -1."""
+    if i < 0 or j < 0:
+        return [REFUSED]
+    bounds = bounds_of_stretches(i, j, order)
+    count = len(bounds) // 2
+    if count > most:
+        return [REFUSED]
+    return [count] + bounds
 
 
 def is_letter(kind):
@@ -191,3 +204,17 @@ def with_stretches_turned(places, least, levels):
     stretch.reverse()
     answer.extend(stretch)
     return answer
+
+
+def bounds_of_stretches(i, j, order):
+    """Give back, of each longest stretch with places from i to before j, its two bounds."""
+    bounds = []
+    was_within = False
+    for place_on_screen, place in enumerate(order):
+        is_within = i <= place < j
+        if is_within != was_within:
+            bounds.append(place_on_screen)
+        was_within = is_within
+    if was_within:
+        bounds.append(len(order))
+    return bounds

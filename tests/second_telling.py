@@ -1,4 +1,4 @@
-"""What the document says of levels and lines, told a second time and without haste.
+"""What the document says of levels, lines and what is chosen, told a second time and without haste.
 
 Each cell is looked at by itself and everything is found anew for it, so that
 nothing here goes the program's way.
@@ -135,3 +135,18 @@ def order_by_pairs(begin, to, base, kinds, levels):
             left += there > here and least % 2 == 1
         answer[left] = begin + here
     return answer
+
+
+def told_chosen(i, j, most, order):
+    """Promise 4: of all stretches of the screen, those that hold nothing else and can't be longer."""
+    if min(i, j) < 0:
+        return [-1]
+    fits = [False] + [place in range(i, j) for place in order] + [False]
+    bounds = [
+        (begin, behind)
+        for begin, behind in itertools.combinations(range(len(order) + 1), 2)
+        if not fits[begin] and not fits[behind + 1] and all(fits[begin + 1:behind + 1])
+    ]
+    if len(bounds) > most:
+        return [-1]
+    return [len(bounds)] + [bound for pair in bounds for bound in pair]
